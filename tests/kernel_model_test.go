@@ -441,9 +441,6 @@ func TestTwoArraysAgainstModel(t *testing.T) {
 func TestInnerAgainstModel(t *testing.T) {
 	for _, a := range pool() {
 		for _, b := range pool() {
-			if len(a.Data)*len(b.Data) > 2000 {
-				continue
-			}
 			for f := 1; f <= 10; f++ {
 				for g := 1; g <= 10; g++ {
 					got, code := impl.Inner(f, g, a, b)
