@@ -554,7 +554,8 @@ cells:
 	return Array{Shape: joined(b.Shape), Data: data}
 }
 
-func match(a, b Array) Array {
-	same := slices.Equal(a.Shape, b.Shape) && slices.Equal(a.Data, b.Data)
-	return scalar(truth(same))
+func match(a, b Array) Array { return scalar(truth(sameArrays(a, b))) }
+
+func sameArrays(a, b Array) bool {
+	return slices.Equal(a.Shape, b.Shape) && slices.Equal(a.Data, b.Data)
 }

@@ -61,8 +61,9 @@ func TestParseArrayOfArrayText(t *testing.T) {
 	}
 }
 
-func TestParseArrayTakesOnlySuchTexts(t *testing.T) {
-	for _, text := range []string{
+// badArrayTexts are no texts of arrays, each for another reason.
+func badArrayTexts() []string {
+	return []string{
 		"", ":", "::", " ", ":-", ": 5", ":5 ", ":5:", "5", "1", "1 2 3", "1:", "2:1", "2:1 2 3", "0:1", "0:0", ":1 2", "0: ", " 0:",
 		"-1:", "-0:", "00:", "01:1", "+1:1", "1:+1", "1:01", "1:-01", "1:-0", "1:--1", "1:0x1", "1:1_0", "1:1e0", "1:1.0", "1:\u0661", "a:1",
 		"2:1  2", "2:1\t2", "2:1\n2", "2:1,2", "2  1:1 2", "2 1 :1 2", "2:1 2\n", "\n2:1 2", "2:1 2\x00", "2;1 2",
@@ -74,7 +75,11 @@ func TestParseArrayTakesOnlySuchTexts(t *testing.T) {
 		":" + strings.Repeat("0", 20000) + "5",
 		"0:" + strings.Repeat(" ", 30000),
 		strings.Repeat("1 ", 15000) + ":1",
-	} {
+	}
+}
+
+func TestParseArrayTakesOnlySuchTexts(t *testing.T) {
+	for _, text := range badArrayTexts() {
 		if a, code := impl.ParseArray(text); code != 1 || len(a.Shape) != 0 || len(a.Data) != 0 {
 			t.Errorf("%q: %q", short(text), show(a, code))
 		}
